@@ -1,0 +1,1 @@
+"""Like work, like marks, whole."""
