@@ -15,9 +15,12 @@ BEGIN = 0
 MARK = 1
 UNMARK = 2
 WORK = 3
+HAND = 4
+SAME = 5
+ORDER = 6
 
-# By a call's number: how many whole numbers stand behind it.
-ARGUMENT_COUNTS = (0, 3, 2, 1)
+# By a call's number: how many whole numbers stand behind it. The last one is off.
+ARGUMENT_COUNTS = (0, 3, 2, 1, 1, 2, 1, 0)
 
 # A work has 1 to 6 marks. Of 60 the share of each is whole, so the equations
 # for the hands, taken 60 times, hold whole numbers alone.
@@ -46,7 +49,15 @@ def answer_call(marks, number, given):
         return call_mark(marks, given[0], given[1], given[2])
     if number == UNMARK:
         return call_unmark(marks, given[0], given[1])
-    return call_work(marks, given[0])
+    if number == WORK:
+        return call_work(marks, given[0])
+    if number == HAND:
+        return call_hand(marks, given[0])
+    if number == SAME:
+        return call_same(marks, given[0], given[1])
+    if number == ORDER:
+        return call_order(marks, given[0])
+    return call_off(marks)
 
 
 def call_begin(marks):
@@ -73,10 +84,45 @@ def call_unmark(marks, judge, work):
 def call_work(marks, work):
     if work >= WORKS:
         return [OUT_OF_RANGE]
-    if len(judges_of(marks, work)) == 0:
+    if not has_mark(marks, work):
         return [NO_SUCH_MARK]
-    right = put_right(marks, work)
+    right = put_right(marks, hands_of_all(marks), work)
     return [0, right[0], right[1]]
+
+
+def call_hand(marks, judge):
+    if judge >= JUDGES:
+        return [OUT_OF_RANGE]
+    if len(works_of(marks, judge)) == 0:
+        return [NO_SUCH_MARK]
+    hand = hands_of_all(marks)[judge]
+    return [0, hand[0], hand[1]]
+
+
+def call_same(marks, work, other):
+    if work >= WORKS or other >= WORKS:
+        return [OUT_OF_RANGE]
+    if not has_mark(marks, work) or not has_mark(marks, other):
+        return [NO_SUCH_MARK]
+    return [1 if other in compared_with(marks, work) else 0]
+
+
+def call_order(marks, work):
+    if work >= WORKS:
+        return [OUT_OF_RANGE]
+    if not has_mark(marks, work):
+        return [NO_SUCH_MARK]
+    works = greatest_first(marks, compared_with(marks, work))
+    return [len(works)] + works
+
+
+def call_off(marks):
+    rest = sum_of_squares(marks)
+    return [0, rest[0], rest[1]]
+
+
+def has_mark(marks, work):
+    return len(judges_of(marks, work)) > 0
 
 
 def judges_of(marks, work):
@@ -102,9 +148,46 @@ def group_of(marks, judge):
     return group
 
 
-def put_right(marks, work):
-    """The mark put right of a work that has a mark."""
+def compared_with(marks, work):
+    """The works that are compared with one that has a mark, itself too, by number."""
+    # All judges of one work hang together, so any of them leads to the group.
+    works = []
+    for judge in group_of(marks, judges_of(marks, work)[0]):
+        works.extend(works_of(marks, judge))
+    return sorted(set(works))
+
+
+def greatest_first(marks, works):
+    """These works by their marks put right, of like ones the lesser number first."""
+    rights = rights_of(marks, hands_of_all(marks), works)
+    below = common_below(list(rights.values()))
+    return sorted(works, key=lambda work: (-times(rights[work], below), work))
+
+
+def sum_of_squares(marks):
+    """The squares of what is left of each mark, less its work's mark put right and its judge's hand."""
     hands = hands_of_all(marks)
+    rights = rights_of(marks, hands, [work for work in range(WORKS) if has_mark(marks, work)])
+    # Taken so many times all that is left is whole, and only the sum is brought to lowest terms.
+    below = common_below(hands + list(rights.values()))
+    total = 0
+    for judge in range(JUDGES):
+        for work in works_of(marks, judge):
+            left = below * marks[(judge, work)] - times(rights[work], below) - times(hands[judge], below)
+            total += left * left
+    return lowest(total, below * below)
+
+
+def rights_of(marks, hands, works):
+    """A dict from each of these works, which have marks, to its mark put right."""
+    rights = {}
+    for work in works:
+        rights[work] = put_right(marks, hands, work)
+    return rights
+
+
+def put_right(marks, hands, work):
+    """The mark put right of a work that has a mark."""
     judges = judges_of(marks, work)
     total = (0, 1)
     for judge in judges:
@@ -168,6 +251,19 @@ def lowest(above, below):
     """The fraction in lowest terms; below is greater than 0."""
     divisor = greatest_divisor(abs(above), below)
     return (above // divisor, below // divisor)
+
+
+def common_below(fractions):
+    """The least number, above 0, that makes each of the fractions whole when taken so many times."""
+    common = 1
+    for fraction in fractions:
+        common = common * fraction[1] // greatest_divisor(common, fraction[1])
+    return common
+
+
+def times(fraction, below):
+    """The fraction taken so many times, where that makes it whole."""
+    return fraction[0] * (below // fraction[1])
 
 
 def greatest_divisor(one, other):

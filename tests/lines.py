@@ -2,7 +2,9 @@
 
 from likemarks.judges import answers
 
-NUMBERS = {"begin": 0, "mark": 1, "unmark": 2, "work": 3}
+NUMBERS = {"begin": 0, "mark": 1, "unmark": 2, "work": 3, "hand": 4, "same": 5, "order": 6, "off": 7}
+
+GREATEST = 4294967295
 
 
 def line(*calls):
@@ -44,8 +46,28 @@ def marking(marks):
     return [("mark", judge, work, mark) for (judge, work), mark in marks.items()]
 
 
+def asked(marks, *calls):
+    """What each of the calls answers when these marks have been given."""
+    return told(*marking(marks), *calls)[len(marks):]
+
+
 def works_told(marks):
     """A dict from each marked work to what work answers of it."""
     works = sorted({work for _, work in marks})
-    found = told(*marking(marks), *[("work", work) for work in works])
-    return dict(zip(works, found[len(marks):]))
+    return dict(zip(works, asked(marks, *[("work", work) for work in works])))
+
+
+def hands_told(marks):
+    """A dict from each judge with a mark to what hand answers of them."""
+    judges = sorted({judge for judge, _ in marks})
+    return dict(zip(judges, asked(marks, *[("hand", judge) for judge in judges])))
+
+
+def some_marks(source, judges, works, share, greatest):
+    """Marks of some of the judges and works; about so many of 100 that there could be."""
+    marks = {}
+    for judge in range(judges):
+        for work in range(works):
+            if source.randrange(100) < share:
+                marks[(judge, work)] = source.randint(0, greatest)
+    return marks

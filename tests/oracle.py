@@ -1,7 +1,7 @@
-"""Hands and marks put right, straight from the document's three sentences.
+"""What the document's words come to, worked out apart from the program.
 
 It shares nothing with the program: hands and marks put right are unknowns side
-by side, and every sentence is an equation of its own.
+by side, and every sentence that is said of them is an equation of its own.
 """
 
 from fractions import Fraction
@@ -54,3 +54,52 @@ def solved(marks):
     if any(row[-1] != 0 for row in table[len(unknowns):]):
         raise AssertionError("the equations contradict one another")
     return {name: table[k][-1] for k, name in enumerate(unknowns)}
+
+
+def works_compared(marks, work):
+    """The works that are compared with this one, itself too."""
+    judges = {judge for judge, other in marks if other == work}
+    group = next(group for group in groups(marks) if group & judges)
+    return {other for judge, other in marks if judge in group}
+
+
+def squares_left(marks, right):
+    """The squares of what is left of the marks with these hands and marks put right."""
+    left = [mark - right[("work", work)] - right[("hand", judge)] for (judge, work), mark in marks.items()]
+    return sum((rest * rest for rest in left), Fraction(0))
+
+
+def fraction_told(fraction):
+    return [0, fraction.numerator, fraction.denominator]
+
+
+def answered(calls):
+    """What each call of a list such as ("mark", 0, 1, 2) answers; there are no marks at first."""
+    marks = {}
+    return [answer(marks, call[0], call[1:]) for call in calls]
+
+
+def answer(marks, name, given):
+    if name == "begin":
+        marks.clear()
+        return [0]
+    judges, works, mark = {
+        "mark": (given[:1], given[1:2], given[2:]), "unmark": (given[:1], given[1:], ()), "hand": (given, (), ()),
+        "work": ((), given, ()), "same": ((), given, ()), "order": ((), given, ()), "off": ((), (), ()),
+    }[name]
+    if any(judge > 5 for judge in judges) or any(work > 15 for work in works) or any(one > 1000 for one in mark):
+        return [-22]
+    if name == "mark":
+        marks[given[:2]] = given[2]
+        return [len(marks)]
+    if name == "unmark":
+        return [-2] if marks.pop(given, None) is None else [len(marks)]
+    if set(judges) - {judge for judge, _ in marks} or set(works) - {work for _, work in marks}:
+        return [-2]
+    if name == "same":
+        return [int(given[1] in works_compared(marks, given[0]))]
+    right = solved(marks)
+    if name == "order":
+        found = sorted(works_compared(marks, given[0]), key=lambda work: (-right[("work", work)], work))
+        return [len(found)] + found
+    return fraction_told(squares_left(marks, right) if name == "off" else right[(name, given[0])])

@@ -15,13 +15,18 @@ class Begin(unittest.TestCase):
         self.assertEqual(told(*calls), [[-2]] * 16)
         calls = [("unmark", judge, work) for judge in range(6) for work in range(16)]
         self.assertEqual(told(*calls), [[-2]] * 96)
+        calls = [("hand", judge) for judge in range(6)] + [("order", work) for work in range(16)]
+        self.assertEqual(told(*calls), [[-2]] * 22)
+        self.assertEqual(told(("same", 0, 0), ("off",)), [[-2], [0, 0, 1]])
 
     def test_begin_that_comes_again_takes_every_mark_away(self):
         found = told(
             ("mark", 0, 0, 5), ("mark", 5, 15, 6), ("begin",),
-            ("work", 0), ("work", 15), ("unmark", 0, 0), ("mark", 1, 1, 7), ("work", 1),
+            ("work", 0), ("work", 15), ("unmark", 0, 0), ("hand", 5), ("same", 0, 0), ("order", 15), ("off",),
+            ("mark", 1, 1, 7), ("work", 1),
         )
-        self.assertEqual(found, [[1], [2], [0], [-2], [-2], [-2], [1], [0, 7, 1]])
+        self.assertEqual(found[:3], [[1], [2], [0]])
+        self.assertEqual(found[3:], [[-2]] * 6 + [[0, 0, 1], [1], [0, 7, 1]])
 
     def test_begin_may_come_again_at_once_and_often(self):
         self.assertEqual(answers([0] * 400), [1, 0] * 400)

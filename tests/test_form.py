@@ -82,6 +82,22 @@ class Form(unittest.TestCase):
         for node in self.nodes(ast.Attribute):
             self.assertIn(node.attr, METHODS)
 
+    def test_keywords_and_sets(self):
+        keywords = {"sorted": ("key", "reverse"), "min": ("key", "default"), "max": ("key", "default")}
+        for node in self.nodes(ast.Call):
+            name = node.func.id if isinstance(node.func, ast.Name) else ""
+            for keyword in node.keywords:
+                self.assertIn(keyword.arg, keywords.get(name, ()))
+        # Each set stands straight within sorted or len.
+        names = [node for node in self.nodes(ast.Name) if node.id in ("set", "frozenset")]
+        walked = [
+            node for node in self.nodes(ast.Call)
+            if isinstance(node.func, ast.Name) and node.func.id in ("sorted", "len") and not node.keywords
+            and isinstance(node.args[0], ast.Call) and isinstance(node.args[0].func, ast.Name)
+            and node.args[0].func.id in ("set", "frozenset")
+        ]
+        self.assertEqual(len(names), len(walked))
+
     def nodes(self, kind):
         found = []
         for path in sources():

@@ -2,9 +2,7 @@
 
 import unittest
 
-from tests.lines import last, told
-
-GREATEST = 4294967295
+from tests.lines import GREATEST, last, told
 
 
 class Mark(unittest.TestCase):

@@ -5,20 +5,8 @@ import unittest
 from fractions import Fraction
 from math import gcd
 
-from tests.lines import last, marking, told, works_told
+from tests.lines import GREATEST, last, marking, some_marks, told, works_told
 from tests.oracle import groups, solved
-
-GREATEST = 4294967295
-
-
-def some_marks(source, judges, works, share, greatest):
-    """Marks of some of the judges and works; about so many of 100 that there could be."""
-    marks = {}
-    for judge in range(judges):
-        for work in range(works):
-            if source.randrange(100) < share:
-                marks[(judge, work)] = source.randint(0, greatest)
-    return marks
 
 
 class Refusals(unittest.TestCase):
